@@ -1,0 +1,1 @@
+"""Chains of steps on exact fractions, and how their last state hangs on the first."""
