@@ -12,10 +12,9 @@ class Chain:
 
 
 class Run:
-    """A run of that many steps: its states and the lines' values in each step, up to its fault if it has one."""
-
     def __init__(self, steps, start):
         self.steps = steps
+        # With a fault, the states and the lines' values of each step end where it came.
         self.states = [start]
         self.worked = []
         # A fault is told as step, line, number; no fault is an empty list.
