@@ -9,9 +9,14 @@ BACKWARD = 3
 FORWARD = 4
 LEAST = 5
 SPLIT = 6
+MOST = 7
+ROOM = 8
+SCHEDULE = 9
+CHECK = 10
+PLAY = 11
 
 # For each call, by its number: how many whole numbers it has, then how many rows.
-SHAPES = ((1, 2), (1, 1), (1, 0), (0, 1), (0, 1), (2, 0), (2, 0))
+SHAPES = ((1, 2), (1, 1), (1, 0), (0, 1), (0, 1), (2, 0), (2, 0), (2, 0), (2, 0), (2, 0), (2, 1), (1, 2), (1, 1))
 
 
 def answers(calls):
@@ -47,4 +52,16 @@ def answer_of(holder, number, arguments):
         return holder.forward(arguments[0])
     if number == LEAST:
         return holder.least(arguments[0], arguments[1])
-    return holder.parting(arguments[0], arguments[1])
+    if number == SPLIT:
+        return holder.parting(arguments[0], arguments[1])
+    if number == MOST:
+        return holder.most(arguments[0], arguments[1])
+    if number == ROOM:
+        return holder.room(arguments[0], arguments[1])
+    if number == SCHEDULE:
+        return holder.schedule(arguments[0], arguments[1])
+    if number == CHECK:
+        return holder.check(arguments[0], arguments[1], arguments[2])
+    if number == PLAY:
+        return holder.play(arguments[0], arguments[1], arguments[2])
+    return holder.auto(arguments[0], arguments[1])

@@ -29,3 +29,16 @@ def parted_at(n, c, columns):
     """The least m at which parting a chain of n with c slots costs least; n and c are 2 or more."""
     steps = costs(n, columns[c - 2], columns[c - 1])
     return 1 + steps.index(min(steps))
+
+
+def most_steps(c, t, columns):
+    """The greatest n for which T(n, c) is at most t; t is 0 or more."""
+    return max([n for n in range(MOST_STEPS + 1) if columns[c - 1][n] <= t])
+
+
+def fewest_slots(n, t, columns):
+    """The least c for which T(n, c) is at most t, 0 if there is none."""
+    for before, column in enumerate(columns):
+        if column[n] <= t:
+            return before + 1
+    return 0

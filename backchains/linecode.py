@@ -1,5 +1,6 @@
 """Line code: its lines read from numbers, and run at a point."""
 
+from backchains.pieces import cut
 from backchains.rational import add, divide, lowest, multiply, opposite, subtract, weight
 
 INPUT = 0
@@ -20,23 +21,13 @@ MOST_WEIGHT = 200
 
 def read_lines(numbers):
     """The lines, each a tuple of its kind and its numbers, or None if the list isn't lines one behind the other."""
-    lines = []
-    place = 0
-    while place < len(numbers):
-        kind = numbers[place]
-        if kind < INPUT or kind > OPPOSITE:
-            return None
-        line = tuple(numbers[place:place + LENGTHS[kind]])
-        if not well_formed(line):
-            return None
-        lines.append(line)
-        place += LENGTHS[kind]
+    lines = cut(numbers, LENGTHS)
+    if lines is None or not all([well_formed(line) for line in lines]):
+        return None
     return lines
 
 
 def well_formed(line):
-    if len(line) < LENGTHS[line[0]]:
-        return False
     if line[0] == CONSTANT:
         return line[2] >= 1
     return min(line) >= 0

@@ -1,5 +1,6 @@
 """A second reading of the document, word by word and without regard to speed, to hold the program against."""
 
+import functools
 from fractions import Fraction
 
 KINDS = {0: 1, 1: 2, 2: 2, 3: 2, 4: 2, 5: 2, 6: 1}
@@ -79,6 +80,105 @@ def changes(lines, values, direction):
     return told
 
 
+@functools.lru_cache(maxsize=None)
+def least(n, c):
+    if n < 2:
+        return 0
+    if c == 1:
+        return n * (n - 1) // 2
+    return min(m + least(n - m, c - 1) + least(m, c) for m in range(1, n))
+
+
+def parted(n, c):
+    return next(m for m in range(1, n) if m + least(n - m, c - 1) + least(m, c) == least(n, c))
+
+
+def told(n, s, free):
+    """S(n, s, free slots): acts as lists of numbers."""
+    if n == 0:
+        return []
+    if n == 1:
+        return [[0, s], [3]]
+    if not free:
+        acts = []
+        for i in range(n - 1, -1, -1):
+            acts += [[0, s]] + [[2]] * i + [[3]]
+        return acts
+    x, *others = free
+    m = parted(n, len(free) + 1)
+    return [[0, s]] + [[2]] * m + [[1, x]] + told(n - m, x, others) + told(m, s, [x] + others)
+
+
+def told_schedule(n, c):
+    return told(n, 0, list(range(1, c)))
+
+
+def read_acts(numbers):
+    acts = []
+    numbers = list(numbers)
+    while numbers:
+        kind = numbers.pop(0)
+        if kind in (2, 3):
+            acts.append([kind])
+            continue
+        if kind not in (0, 1) or not numbers or numbers[0] < 0:
+            raise Refused(-2)
+        acts.append([kind, numbers.pop(0)])
+    if len(acts) > 2000:
+        raise Refused(-7)
+    return acts
+
+
+class NotPlayed(Exception):
+    pass
+
+
+class Player:
+    """Plays a schedule with the states themselves in the slots."""
+
+    def __init__(self, n, c, start, step, turn):
+        self.n, self.c, self.left = n, c, n
+        self.slots = {0: (0, start)}
+        self.hand = None
+        self.step, self.turn = step, turn
+        self.forward = 0
+
+    def do(self, number, kind, k=None):
+        if kind in (0, 1) and k > self.c - 1:
+            raise NotPlayed(number, 1)
+        if kind == 0 and k not in self.slots:
+            raise NotPlayed(number, 2)
+        if kind != 0 and self.hand is None:
+            raise NotPlayed(number, 3)
+        if kind == 0:
+            self.hand = self.slots[k]
+        elif kind == 1:
+            self.slots[k] = self.hand
+        elif kind == 2:
+            i, state = self.hand
+            if i == self.n:
+                raise NotPlayed(number, 4)
+            self.hand = (i + 1, self.step(i, state))
+            self.forward += 1
+        else:
+            i, state = self.hand
+            if self.left != i + 1:
+                raise NotPlayed(number, 5)
+            self.turn(i, state)
+            self.left = i
+
+    def play(self, acts):
+        for number, act in enumerate(acts):
+            self.do(number, *act)
+        if self.left:
+            raise NotPlayed(len(acts), 6)
+
+
+def in_range(number, low, high):
+    if not low <= number <= high:
+        raise Refused(-1)
+
+
 class Model:
     def __init__(self):
         self.chain = None
@@ -155,16 +255,19 @@ class Model:
             raise Refused(-1)
         return self.tell(self.good_states()[number])
 
+    def turned(self, weights, state, step):
+        parts = self.chain[0]
+        turned = []
+        for k in range(parts):
+            pushed = self.pushed([Fraction(int(k == part)) for part in range(parts)], state, step)
+            turned.append(sum(weights[part] * pushed[part] for part in range(parts)))
+        return turned
+
     def call_3(self, numbers):
         weights = self.fractions(numbers)
         states = self.good_states()
-        parts = self.chain[0]
         for step in reversed(range(len(states) - 1)):
-            turned = []
-            for k in range(parts):
-                pushed = self.pushed([Fraction(int(k == part)) for part in range(parts)], states[step], step)
-                turned.append(sum(weights[part] * pushed[part] for part in range(parts)))
-            weights = turned
+            weights = self.turned(weights, states[step], step)
         return self.tell(weights)
 
     def call_4(self, numbers):
@@ -174,8 +277,75 @@ class Model:
             direction = self.pushed(direction, states[step], step)
         return self.tell(direction)
 
+    def call_5(self, n, c):
+        in_range(n, 1, 60)
+        in_range(c, 1, 20)
+        return [least(n, c)]
+
+    def call_6(self, n, c):
+        in_range(n, 2, 60)
+        in_range(c, 2, 20)
+        return [parted(n, c)]
+
+    def call_7(self, c, t):
+        in_range(c, 1, 20)
+        in_range(t, 0, 1000000)
+        return [max(n for n in range(61) if least(n, c) <= t)]
+
+    def call_8(self, n, t):
+        in_range(n, 1, 60)
+        in_range(t, 0, 1000000)
+        return [next((c for c in range(1, 21) if least(n, c) <= t), 0)]
+
+    def call_9(self, n, c):
+        in_range(n, 1, 50)
+        in_range(c, 1, 10)
+        numbers = [number for act in told_schedule(n, c) for number in act]
+        return [len(numbers)] + numbers
+
+    def call_10(self, n, c, numbers):
+        in_range(n, 1, 50)
+        in_range(c, 1, 10)
+        acts = read_acts(numbers)
+        player = Player(n, c, None, lambda i, state: None, lambda i, state: None)
+        try:
+            player.play(acts)
+        except NotPlayed as hindered:
+            return [1, *hindered.args]
+        return [0, player.forward, len(player.slots)]
+
+    def played(self, c, acts, weights):
+        steps, start = self.told
+        parts, lines, outs = self.chain
+
+        def step(i, state):
+            values = run_code(lines, state + [Fraction(i)])
+            return [values[out] for out in outs]
+
+        def turn(i, state):
+            weights[:] = self.turned(weights, state, i)
+
+        try:
+            Player(steps, c, start, step, turn).play(acts)
+        except NotPlayed:
+            raise Refused(-8)
+        return self.tell(weights)
+
+    def call_11(self, c, numbers, weight_numbers):
+        in_range(c, 1, 10)
+        acts = read_acts(numbers)
+        weights = self.fractions(weight_numbers)
+        self.good_states()
+        return self.played(c, acts, weights)
+
+    def call_12(self, c, numbers):
+        in_range(c, 1, 10)
+        weights = self.fractions(numbers)
+        self.good_states()
+        return self.played(c, told_schedule(self.told[0], c), weights)
+
     def answer(self, number, *arguments):
         try:
-            return [self.call_0, self.call_1, self.call_2, self.call_3, self.call_4][number](*arguments)
+            return getattr(self, f"call_{number}")(*arguments)
         except Refused as refused:
             return list(refused.args)

@@ -45,6 +45,47 @@ def split(steps, slots):
     return [6, steps, slots]
 
 
+def most(slots, limit):
+    return [7, slots, limit]
+
+
+def room(steps, limit):
+    return [8, steps, limit]
+
+
+def schedule(steps, slots):
+    return [9, steps, slots]
+
+
+def check(steps, slots, acts):
+    """Acts are numbers one behind the other, or lists of them."""
+    return [10, steps, slots] + row(act_numbers(acts))
+
+
+def play(slots, acts, numbers):
+    return [11, slots] + row(act_numbers(acts)) + row(numbers)
+
+
+def auto(slots, numbers):
+    return [12, slots] + row(numbers)
+
+
+def take(slot):
+    return [0, slot]
+
+
+def keep(slot):
+    return [1, slot]
+
+
+STEP = [2]
+TURN = [3]
+
+
+def act_numbers(acts):
+    return flat(act if isinstance(act, list) else [act] for act in acts)
+
+
 def part(told):
     """The answers, a list for each call."""
     parted = []
@@ -62,6 +103,11 @@ def ask(*calls):
 
 def last(*calls):
     return ask(*calls)[-1]
+
+
+def told_acts(steps, slots):
+    """The numbers of the told schedule."""
+    return last(schedule(steps, slots))[1:]
 
 
 # x, y -> x * y + x, y: after n steps x * (1 + y) ** n, y.

@@ -14,7 +14,7 @@ class Readme(unittest.TestCase):
     def test_the_example(self):
         text = README.read_text()
         calls = re.search(r"answers\((\[\n.*?\])\)", text, re.DOTALL).group(1)
-        told = re.search(r"^# (\[.*\])$", text, re.MULTILINE).group(1)
+        told = re.search(r"^# (\[.*?\])$", text, re.MULTILINE | re.DOTALL).group(1).replace("#", "")
         self.assertEqual(answers(ast.literal_eval(calls)), ast.literal_eval(told))
 
 
